@@ -1,0 +1,176 @@
+// Package rules tests what the document and the rules of the language ask of the text of the program itself.
+package rules
+
+import (
+	"go/ast"
+	"go/parser"
+	"go/token"
+	"go/types"
+	"path/filepath"
+	"slices"
+	"strconv"
+	"strings"
+	"testing"
+)
+
+// layers returns the packages of the layers, with the packages of the project that each may call.
+func layers() map[string][]string {
+	return map[string][]string{
+		"line":       {"api"},
+		"course":     {"api"},
+		"deed":       {"api", "line", "course"},
+		"limits":     {"api", "line", "course", "deed"},
+		"area":       {"api", "line", "deed", "limits"},
+		"plan":       {"api", "line"},
+		"right":      {"api"},
+		"court":      {"api", "line", "deed", "limits"},
+		"book":       {"api"},
+		"commission": {"api", "line", "course", "deed", "limits", "area", "plan", "right", "court", "book"},
+	}
+}
+
+// library is the packages of the library that the program may use.
+const library = " bytes cmp container/heap errors iter maps math math/bits slices sort strconv strings sync sync/atomic unicode unicode/utf8 "
+
+// source returns the files of a package without its tests.
+func source(t *testing.T, name string) []*ast.File {
+	t.Helper()
+	paths, err := filepath.Glob(filepath.Join("..", name, "*.go"))
+	if err != nil {
+		t.Fatal(err)
+	}
+	var files []*ast.File
+	for _, path := range paths {
+		if strings.HasSuffix(path, "_test.go") {
+			continue
+		}
+		f, err := parser.ParseFile(token.NewFileSet(), path, nil, parser.ParseComments)
+		if err != nil {
+			t.Fatal(err)
+		}
+		files = append(files, f)
+	}
+	if len(files) == 0 {
+		t.Fatalf("package %s has no files", name)
+	}
+	return files
+}
+
+// A layer calls the layers that its chapter names, and few packages of the library.
+func TestImports(t *testing.T) {
+	for name, lower := range layers() {
+		for _, f := range source(t, name) {
+			for _, i := range f.Imports {
+				path, err := strconv.Unquote(i.Path.Value)
+				if err != nil {
+					t.Fatal(err)
+				}
+				own, is := strings.CutPrefix(path, "merestone/")
+				if is && !slices.Contains(lower, own) && slices.Contains(append(names(), "api"), own) || !is && !strings.Contains(library, " "+path+" ") {
+					t.Errorf("package %s imports %s", name, path)
+				}
+			}
+		}
+	}
+}
+
+// names returns the packages of the layers.
+func names() []string {
+	var l []string
+	for name := range layers() {
+		l = append(l, name)
+	}
+	return l
+}
+
+// No directive, and no variable of a package without a value that is written out.
+func TestPackageLevel(t *testing.T) {
+	for _, name := range names() {
+		for _, f := range source(t, name) {
+			for _, c := range f.Comments {
+				for _, l := range c.List {
+					if strings.HasPrefix(l.Text, "//go:") || strings.HasPrefix(l.Text, "// +build") {
+						t.Errorf("package %s has the directive %s", name, l.Text)
+					}
+				}
+			}
+			for _, d := range f.Decls {
+				if g, is := d.(*ast.GenDecl); is && g.Tok == token.VAR {
+					for _, s := range g.Specs {
+						if v := s.(*ast.ValueSpec); len(v.Values) != len(v.Names) {
+							t.Errorf("package %s has the variable %s without a value", name, v.Names[0].Name)
+						}
+					}
+				}
+			}
+		}
+	}
+}
+
+// The section Ways of the chapters of the layers that are built.
+func TestWays(t *testing.T) {
+	for name, ways := range map[string][]string{
+		"line": {"array", "range-function", "closure", "label", "method-expression", "map", "generic-function"},
+	} {
+		got := found(source(t, name))
+		for _, way := range ways {
+			if !got[way] {
+				t.Errorf("package %s does not use the way %s", name, way)
+			}
+		}
+	}
+}
+
+// found returns the language features that some files use, as far as their text shows it.
+func found(files []*ast.File) map[string]bool {
+	got := map[string]bool{}
+	own := declared(files)
+	for _, f := range files {
+		ast.Inspect(f, func(n ast.Node) bool {
+			switch x := n.(type) {
+			case *ast.ArrayType:
+				got["array"] = got["array"] || x.Len != nil
+			case *ast.MapType:
+				got["map"] = true
+			case *ast.FuncLit:
+				got["closure"] = true
+			case *ast.BranchStmt:
+				got["label"] = got["label"] || x.Label != nil
+			case *ast.FuncDecl:
+				got["generic-function"] = got["generic-function"] || x.Type.TypeParams != nil
+				got["range-function"] = got["range-function"] || yields(x.Type)
+			case *ast.SelectorExpr:
+				if id, is := x.X.(*ast.Ident); is && own[id.Name] {
+					got["method-expression"] = true
+				}
+			}
+			return true
+		})
+	}
+	return got
+}
+
+// declared returns the names of the types that some files declare.
+func declared(files []*ast.File) map[string]bool {
+	names := map[string]bool{}
+	for _, f := range files {
+		ast.Inspect(f, func(n ast.Node) bool {
+			if s, is := n.(*ast.TypeSpec); is {
+				names[s.Name.Name] = true
+			}
+			return true
+		})
+	}
+	return names
+}
+
+// yields says whether a function returns one that can be ranged over, or is one.
+func yields(f *ast.FuncType) bool {
+	if strings.HasPrefix(types.ExprString(f), "func(yield func(") {
+		return true
+	}
+	return f.Results != nil && slices.ContainsFunc(f.Results.List, func(r *ast.Field) bool {
+		text := types.ExprString(r.Type)
+		return strings.HasPrefix(text, "iter.Seq") || strings.HasPrefix(text, "func(yield func(")
+	})
+}
