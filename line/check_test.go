@@ -6,6 +6,7 @@ import (
 	"testing"
 
 	"merestone/api"
+	"merestone/expect"
 	"merestone/line"
 )
 
@@ -55,7 +56,7 @@ func TestCheck(t *testing.T) {
 		{"two bounds of the same points", api.System{N: 2, Bounds: []api.Bound{{To: 1}, {To: 1, Most: 2}}}, api.OK},
 		{"a bad bound behind good ones", plus(chapter(), api.Bound{From: 3, To: 3}), api.ErrArg},
 	} {
-		errno(t, x.name, line.Check(x.s), x.want)
+		expect.Errno(t, x.name, line.Check(x.s), x.want)
 	}
 }
 
@@ -95,9 +96,9 @@ func TestKept(t *testing.T) {
 		{"no values, and a bad system", api.System{N: 129}, nil, 0, false, api.ErrLimit},
 	} {
 		at, is, e := line.Kept(x.s, x.y)
-		equal(t, x.name, at, x.at)
-		equal(t, x.name, is, x.is)
-		errno(t, x.name, e, x.want)
+		expect.Equal(t, x.name, at, x.at)
+		expect.Equal(t, x.name, is, x.is)
+		expect.Errno(t, x.name, e, x.want)
 	}
 }
 
@@ -122,16 +123,16 @@ func TestRecords(t *testing.T) {
 		{"far before", []int{math.MinInt}, api.ErrArg, nil},
 	} {
 		l, e := line.Records(s, x.l)
-		ints(t, x.name, l, x.want...)
-		errno(t, x.name, e, x.e)
+		expect.List(t, x.name, l, x.want...)
+		expect.Errno(t, x.name, e, x.e)
 	}
 	l, e := line.Records(contradiction(), []int{0, 2, 5})
-	ints(t, "of a contradiction", l, 1, 3, 5)
-	errno(t, "of a contradiction", e, api.OK)
+	expect.List(t, "of a contradiction", l, 1, 3, 5)
+	expect.Errno(t, "of a contradiction", e, api.OK)
 	_, e = line.Records(api.System{N: 129}, []int{0})
-	errno(t, "of a bad system", e, api.ErrLimit)
+	expect.Errno(t, "of a bad system", e, api.ErrLimit)
 	_, e = line.Records(api.System{N: 2}, []int{0})
-	errno(t, "of no bounds", e, api.ErrArg)
+	expect.Errno(t, "of no bounds", e, api.ErrArg)
 }
 
 // A14: bounds left out by their Records.
@@ -151,8 +152,8 @@ func TestWithout(t *testing.T) {
 		{"all", []int{0, 1, 2, 3, 4, 5}, nil},
 	} {
 		w, e := line.Without(s, x.records)
-		errno(t, x.name, e, api.OK)
-		equal(t, x.name, w.N, 4)
+		expect.Errno(t, x.name, e, api.OK)
+		expect.Equal(t, x.name, w.N, 4)
 		var want []api.Bound
 		for _, i := range x.want {
 			want = append(want, s.Bounds[i])
@@ -167,8 +168,8 @@ func TestWithout(t *testing.T) {
 func TestJoin(t *testing.T) {
 	s, u := chapter(), api.System{N: 4, Bounds: []api.Bound{{From: 3, To: 0, Most: -7, Record: 9}, {From: 0, To: 3, Most: 7}}}
 	j, e := line.Join(s, u)
-	errno(t, "Join", e, api.OK)
-	equal(t, "Join", j.N, 4)
+	expect.Errno(t, "Join", e, api.OK)
+	expect.Equal(t, "Join", j.N, 4)
 	if want := slices.Concat(s.Bounds, u.Bounds); !slices.Equal(j.Bounds, want) {
 		t.Errorf("Join: %v, want %v", j.Bounds, want)
 	}
@@ -203,6 +204,6 @@ func TestJoin(t *testing.T) {
 		{"the second one is too long", chapter(), long, api.ErrLimit},
 	} {
 		_, e := line.Join(x.s, x.u)
-		errno(t, x.name, e, x.want)
+		expect.Errno(t, x.name, e, x.want)
 	}
 }

@@ -7,6 +7,7 @@ import (
 	"testing"
 
 	"merestone/api"
+	"merestone/expect"
 	"merestone/line"
 )
 
@@ -33,19 +34,19 @@ func TestCircle(t *testing.T) {
 		{"equal ones of two points", api.System{N: 4, Bounds: []api.Bound{{From: 2, To: 3, Most: -1}, {From: 0, To: 1, Most: -1}, {From: 1, To: 0}, {From: 3, To: 2}}}, []int{0, 3}},
 	} {
 		l, is, e := line.Circle(x.s)
-		ints(t, x.name, l, x.want...)
-		equal(t, x.name, is, x.want != nil)
-		errno(t, x.name, e, api.OK)
+		expect.List(t, x.name, l, x.want...)
+		expect.Equal(t, x.name, is, x.want != nil)
+		expect.Errno(t, x.name, e, api.OK)
 		ok, e := line.Consistent(x.s)
-		equal(t, x.name, ok, x.want == nil)
-		errno(t, x.name, e, api.OK)
+		expect.Equal(t, x.name, ok, x.want == nil)
+		expect.Errno(t, x.name, e, api.OK)
 	}
 }
 
 // A3: the sum of the chapter's circle.
 func TestCircleSum(t *testing.T) {
 	l, _, _ := line.Circle(contradiction())
-	equal(t, "its sum", sumOf(contradiction(), l), -1)
+	expect.Equal(t, "its sum", sumOf(contradiction(), l), -1)
 }
 
 // A3: circles of all 128 points.
@@ -57,24 +58,24 @@ func TestLongCircle(t *testing.T) {
 		s := chain(128, 1)
 		s.Bounds = append(s.Bounds, api.Bound{From: 127, To: 0, Most: x.back})
 		l, is, e := line.Circle(s)
-		equal(t, "Circle", is, x.want)
-		errno(t, "Circle", e, api.OK)
+		expect.Equal(t, "Circle", is, x.want)
+		expect.Errno(t, "Circle", e, api.OK)
 		ok, _ := line.Consistent(s)
-		equal(t, "Consistent", ok, !x.want)
+		expect.Equal(t, "Consistent", ok, !x.want)
 		if x.want {
-			equal(t, "its length", len(l), 128)
-			equal(t, "its first bound", l[0], 0)
-			equal(t, "its last bound", l[127], 127)
+			expect.Equal(t, "its length", len(l), 128)
+			expect.Equal(t, "its first bound", l[0], 0)
+			expect.Equal(t, "its last bound", l[127], 127)
 			ok, e := line.CheckCircle(s, l)
-			equal(t, "CheckCircle", ok, true)
-			errno(t, "CheckCircle", e, api.OK)
+			expect.Equal(t, "CheckCircle", ok, true)
+			expect.Errno(t, "CheckCircle", e, api.OK)
 		}
 	}
 	s := chain(128, -1000000)
 	s.Bounds = append(s.Bounds, api.Bound{From: 127, To: 0, Most: -1000000})
 	l, is, _ := line.Circle(s)
-	equal(t, "the most negative circle", is, true)
-	equal(t, "its sum", sumOf(s, l), -128000000)
+	expect.Equal(t, "the most negative circle", is, true)
+	expect.Equal(t, "its sum", sumOf(s, l), -128000000)
 }
 
 // A3, P1.1: Circle is what a search through all circles finds first.
@@ -83,19 +84,19 @@ func TestCircleIsFirst(t *testing.T) {
 	eachRandom(t, 4000, func(t *testing.T, r *rand.Rand, s api.System) {
 		want, is := firstNegative(s)
 		l, got, e := line.Circle(s)
-		errno(t, "Circle", e, api.OK)
-		ints(t, "Circle", l, want...)
-		equal(t, "Circle", got, is)
+		expect.Errno(t, "Circle", e, api.OK)
+		expect.List(t, "Circle", l, want...)
+		expect.Equal(t, "Circle", got, is)
 		ok, _ := line.Consistent(s)
-		equal(t, "Consistent", ok, !is)
+		expect.Equal(t, "Consistent", ok, !is)
 		y, e := line.Some(s)
-		equal(t, "Some finds values", e == api.OK && len(y) == s.N, !is)
+		expect.Equal(t, "Some finds values", e == api.OK && len(y) == s.N, !is)
 		if is {
 			found++
 			ok, e := line.CheckCircle(s, l)
-			equal(t, "CheckCircle", ok, true)
-			errno(t, "CheckCircle", e, api.OK)
-			errno(t, "Some", e, api.OK)
+			expect.Equal(t, "CheckCircle", ok, true)
+			expect.Errno(t, "CheckCircle", e, api.OK)
+			expect.Errno(t, "Some", e, api.OK)
 		}
 		if t.Failed() {
 			t.Log(s)
@@ -139,15 +140,15 @@ func TestCheckCircle(t *testing.T) {
 		{"far away behind", []int{0, math.MaxInt}, false},
 	} {
 		ok, e := line.CheckCircle(bad, x.l)
-		equal(t, x.name, ok, x.want)
-		errno(t, x.name, e, api.OK)
+		expect.Equal(t, x.name, ok, x.want)
+		expect.Errno(t, x.name, e, api.OK)
 	}
 	ok, e := line.CheckCircle(api.System{N: 1}, []int{0, 0})
-	equal(t, "no bounds", ok, false)
-	errno(t, "no bounds", e, api.OK)
+	expect.Equal(t, "no bounds", ok, false)
+	expect.Errno(t, "no bounds", e, api.OK)
 	ok, e = line.CheckCircle(bad, slices.Repeat([]int{5, 6}, 5000))
-	equal(t, "a very long list", ok, false)
-	errno(t, "a very long list", e, api.OK)
+	expect.Equal(t, "a very long list", ok, false)
+	expect.Errno(t, "a very long list", e, api.OK)
 }
 
 // P1.1: CheckCircle accepts exactly the negative circles, beginning with any bound.
@@ -156,10 +157,10 @@ func TestCheckCircleIsExact(t *testing.T) {
 		for p := range s.N {
 			eachPath(s, p, p, func(l []int) {
 				ok, e := line.CheckCircle(s, l)
-				equal(t, "CheckCircle", ok, sumOf(s, l) < 0)
-				errno(t, "CheckCircle", e, api.OK)
+				expect.Equal(t, "CheckCircle", ok, sumOf(s, l) < 0)
+				expect.Errno(t, "CheckCircle", e, api.OK)
 				ok, _ = line.CheckCircle(s, l[1:])
-				equal(t, "CheckCircle of a part", ok, false)
+				expect.Equal(t, "CheckCircle of a part", ok, false)
 			})
 		}
 	})
@@ -186,8 +187,8 @@ func TestBlame(t *testing.T) {
 		{"a record twice on one way", api.System{N: 2, Bounds: []api.Bound{{From: 0, To: 1, Most: -1, Record: 4}, {From: 0, To: 1, Most: -2, Record: 5}, {From: 1, To: 0, Record: 6}}}, []int{6}},
 	} {
 		l, e := line.Blame(x.s)
-		ints(t, x.name, l, x.want...)
-		errno(t, x.name, e, api.OK)
+		expect.List(t, x.name, l, x.want...)
+		expect.Errno(t, x.name, e, api.OK)
 	}
 }
 
@@ -200,8 +201,8 @@ func TestBlameIsExact(t *testing.T) {
 			want = inEveryCircle(s)
 		}
 		l, e := line.Blame(s)
-		ints(t, "Blame", l, want...)
-		errno(t, "Blame", e, api.OK)
+		expect.List(t, "Blame", l, want...)
+		expect.Errno(t, "Blame", e, api.OK)
 		blamed += len(l)
 	})
 	if blamed < 500 {

@@ -24,30 +24,6 @@ func contradiction() api.System {
 	return plus(chapter(), api.Bound{From: 2, To: 0, Most: -9, Record: 5})
 }
 
-// ints fails unless a list of numbers is what it should be.
-func ints(t *testing.T, name string, got []int, want ...int) {
-	t.Helper()
-	if !slices.Equal(got, want) {
-		t.Errorf("%s: %v, want %v", name, got, want)
-	}
-}
-
-// errno fails unless an error is what it should be.
-func errno(t *testing.T, name string, got, want api.Errno) {
-	t.Helper()
-	if got != want {
-		t.Errorf("%s: error %d, want %d", name, got, want)
-	}
-}
-
-// equal fails unless two values are equal.
-func equal[T comparable](t *testing.T, name string, got, want T) {
-	t.Helper()
-	if got != want {
-		t.Errorf("%s: %v, want %v", name, got, want)
-	}
-}
-
 // eachRandom runs a test on small systems, about half of them consistent; the numbers always come in the same order.
 func eachRandom(t *testing.T, count int, test func(t *testing.T, r *rand.Rand, s api.System)) {
 	t.Helper()

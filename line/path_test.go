@@ -7,6 +7,7 @@ import (
 	"testing"
 
 	"merestone/api"
+	"merestone/expect"
 	"merestone/line"
 )
 
@@ -18,28 +19,28 @@ func TestDistance(t *testing.T) {
 		is         bool
 	}{{0, 2, 8, true}, {0, 1, 5, true}, {2, 0, -3, true}, {2, 1, -1, true}, {1, 2, 3, true}, {1, 0, -2, true}, {0, 0, 0, true}, {3, 3, 0, true}, {0, 3, 0, false}, {3, 0, 0, false}, {3, 1, 0, false}} {
 		d, is, e := line.Distance(s, x.a, x.b)
-		equal(t, "Distance", d, x.want)
-		equal(t, "Distance", is, x.is)
-		errno(t, "Distance", e, api.OK)
+		expect.Equal(t, "Distance", d, x.want)
+		expect.Equal(t, "Distance", is, x.is)
+		expect.Errno(t, "Distance", e, api.OK)
 	}
 	l, is, e := line.Distances(s, 2)
-	ints(t, "Distances", l, -3, -1, 0, 0)
-	errno(t, "Distances", e, api.OK)
+	expect.List(t, "Distances", l, -3, -1, 0, 0)
+	expect.Errno(t, "Distances", e, api.OK)
 	if !slices.Equal(is, []bool{true, true, true, false}) {
 		t.Errorf("Distances: %v", is)
 	}
 	l, is, e = line.Distances(api.System{N: 1}, 0)
-	ints(t, "Distances of one point", l, 0)
-	errno(t, "Distances of one point", e, api.OK)
+	expect.List(t, "Distances of one point", l, 0)
+	expect.Errno(t, "Distances of one point", e, api.OK)
 	if !slices.Equal(is, []bool{true}) {
 		t.Errorf("Distances of one point: %v", is)
 	}
 	least, _, _ := line.Distance(chain(128, -1000000), 0, 127)
-	equal(t, "the least distance", least, -127000000)
+	expect.Equal(t, "the least distance", least, -127000000)
 	greatest, _, _ := line.Distance(chain(128, 1000000), 0, 127)
-	equal(t, "the greatest distance", greatest, 127000000)
+	expect.Equal(t, "the greatest distance", greatest, 127000000)
 	back, _, _ := line.Distance(turned(chain(128, 3)), 127, 0)
-	equal(t, "a long way back", back, 381)
+	expect.Equal(t, "a long way back", back, 381)
 }
 
 // turned returns a system whose bounds lead the other way.
@@ -58,16 +59,16 @@ func TestDistancesAreLeast(t *testing.T) {
 		r.Shuffle(len(s.Bounds), func(i, j int) { other.Bounds[i], other.Bounds[j] = other.Bounds[j], other.Bounds[i] })
 		for a := range s.N {
 			l, is, e := line.Distances(s, a)
-			errno(t, "Distances", e, api.OK)
+			expect.Errno(t, "Distances", e, api.OK)
 			again, same, _ := line.Distances(other, a)
 			if len(l) != s.N || !slices.Equal(l, again) || !slices.Equal(is, same) {
 				t.Errorf("Distances: %v %v, in another order %v %v", l, is, again, same)
 			}
 			for b := range s.N {
-				equal(t, "Distances", cell{l[b], is[b]}, d[a][b])
+				expect.Equal(t, "Distances", cell{l[b], is[b]}, d[a][b])
 				one, ok, e := line.Distance(s, a, b)
-				equal(t, "Distance", cell{one, ok}, d[a][b])
-				errno(t, "Distance", e, api.OK)
+				expect.Equal(t, "Distance", cell{one, ok}, d[a][b])
+				expect.Errno(t, "Distance", e, api.OK)
 			}
 		}
 	})
@@ -100,13 +101,13 @@ func TestPath(t *testing.T) {
 		{"longer, for the distance", plus(ways, api.Bound{From: 3, To: 4}, api.Bound{From: 0, To: 4, Most: 3}), 0, 4, []int{0, 1, 8}, api.OK},
 	} {
 		l, e := line.Path(x.s, x.a, x.b)
-		ints(t, x.name, l, x.want...)
-		errno(t, x.name, e, x.e)
+		expect.List(t, x.name, l, x.want...)
+		expect.Errno(t, x.name, e, x.e)
 	}
 	l, e := line.Path(chain(128, 1), 0, 127)
-	equal(t, "a long path", len(l), 127)
-	equal(t, "its end", l[126], 126)
-	errno(t, "a long path", e, api.OK)
+	expect.Equal(t, "a long path", len(l), 127)
+	expect.Equal(t, "its end", l[126], 126)
+	expect.Errno(t, "a long path", e, api.OK)
 }
 
 // A6, P1.2: Path is what a search through all paths finds first; CheckPath accepts it, and no path has a lesser sum.
@@ -116,11 +117,11 @@ func TestPathIsFirst(t *testing.T) {
 			for b := range s.N {
 				l, e := line.Path(s, a, b)
 				if !d[a][b].is {
-					errno(t, "Path", e, api.ErrNone)
-					ints(t, "Path", l)
+					expect.Errno(t, "Path", e, api.ErrNone)
+					expect.List(t, "Path", l)
 					continue
 				}
-				errno(t, "Path", e, api.OK)
+				expect.Errno(t, "Path", e, api.OK)
 				var want []int
 				eachPath(s, a, b, func(l []int) {
 					sum := sumOf(s, l)
@@ -131,7 +132,7 @@ func TestPathIsFirst(t *testing.T) {
 					accepts(t, s, l, a, b, sum-1, false)
 					accepts(t, s, l, a, b, d[a][b].most-1, false)
 				})
-				ints(t, "Path", l, want...)
+				expect.List(t, "Path", l, want...)
 				accepts(t, s, l, a, b, d[a][b].most, true)
 				accepts(t, s, l, a, b, d[a][b].most-1, false)
 			}
@@ -143,7 +144,7 @@ func TestPathIsFirst(t *testing.T) {
 func accepts(t *testing.T, s api.System, l []int, a, b, most int, want bool) {
 	t.Helper()
 	is, e := line.CheckPath(s, l, a, b, most)
-	errno(t, "CheckPath", e, api.OK)
+	expect.Errno(t, "CheckPath", e, api.OK)
 	if is != want {
 		t.Errorf("CheckPath(%v, %d, %d, %d): %v", l, a, b, most, is)
 	}
@@ -182,12 +183,12 @@ func TestCheckPath(t *testing.T) {
 		{"far away", []int{math.MinInt}, 0, 2, 99, false},
 	} {
 		is, e := line.CheckPath(s, x.l, x.a, x.b, x.most)
-		equal(t, x.name, is, x.want)
-		errno(t, x.name, e, api.OK)
+		expect.Equal(t, x.name, is, x.want)
+		expect.Errno(t, x.name, e, api.OK)
 	}
 	is, e := line.CheckPath(contradiction(), []int{0, 2, 5}, 0, 0, -1)
-	equal(t, "of a contradiction", is, true)
-	errno(t, "of a contradiction", e, api.OK)
+	expect.Equal(t, "of a contradiction", is, true)
+	expect.Errno(t, "of a contradiction", e, api.OK)
 }
 
 // A6: 2000 bounds are a path, one or two more are none.

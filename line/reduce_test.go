@@ -6,6 +6,7 @@ import (
 	"testing"
 
 	"merestone/api"
+	"merestone/expect"
 	"merestone/line"
 )
 
@@ -30,20 +31,20 @@ func TestNeedless(t *testing.T) {
 		{"a circle of 0", api.System{N: 2, Bounds: []api.Bound{{From: 0, To: 1, Most: 3}, {From: 1, To: 0, Most: -3}}}, nil},
 	} {
 		l, e := line.Needless(x.s)
-		ints(t, x.name, l, x.want...)
-		errno(t, x.name, e, api.OK)
+		expect.List(t, x.name, l, x.want...)
+		expect.Errno(t, x.name, e, api.OK)
 	}
 	l, e := line.Needless(repeated(2000))
-	errno(t, "2000 equal bounds", e, api.OK)
-	equal(t, "2000 equal bounds", len(l), 1999)
+	expect.Errno(t, "2000 equal bounds", e, api.OK)
+	expect.Equal(t, "2000 equal bounds", len(l), 1999)
 }
 
 // A11, P1.6: without the needless bounds all distances stay; without one more some distance changes.
 func TestNeedlessIsExact(t *testing.T) {
 	eachConsistent(t, 2000, func(t *testing.T, r *rand.Rand, s api.System, d table) {
 		l, e := line.Needless(s)
-		errno(t, "Needless", e, api.OK)
-		ints(t, "Needless", l, leftOut(s)...)
+		expect.Errno(t, "Needless", e, api.OK)
+		expect.List(t, "Needless", l, leftOut(s)...)
 		kept := subset(s, func(i int) bool { return !slices.Contains(l, i) })
 		same(t, "without the needless bounds", kept, d, true)
 		for i := range kept.Bounds {
@@ -90,14 +91,14 @@ func subset(s api.System, has func(i int) bool) api.System {
 func same(t *testing.T, name string, s api.System, d table, want bool) {
 	t.Helper()
 	got, is := measured(s)
-	equal(t, name, is && slices.EqualFunc(got, d, slices.Equal[[]cell]), want)
+	expect.Equal(t, name, is && slices.EqualFunc(got, d, slices.Equal[[]cell]), want)
 }
 
 // A13: the closure, in its order.
 func TestClose(t *testing.T) {
 	c, e := line.Close(chapter())
-	errno(t, "Close", e, api.OK)
-	equal(t, "Close", c.N, 4)
+	expect.Errno(t, "Close", e, api.OK)
+	expect.Equal(t, "Close", c.N, 4)
 	want := []api.Bound{{From: 0, To: 1, Most: 5}, {From: 0, To: 2, Most: 8}, {From: 1, To: 0, Most: -2}, {From: 1, To: 2, Most: 3}, {From: 2, To: 0, Most: -3}, {From: 2, To: 1, Most: -1}}
 	if !slices.Equal(c.Bounds, want) {
 		t.Errorf("Close: %v, want %v", c.Bounds, want)
@@ -126,8 +127,8 @@ func TestCloseLimits(t *testing.T) {
 		{"-1000001", api.System{N: 3, Bounds: []api.Bound{{From: 0, To: 1, Most: -600000}, {From: 1, To: 2, Most: -400001}}}, api.ErrLimit, 0},
 	} {
 		c, e := line.Close(x.s)
-		errno(t, x.name, e, x.e)
-		equal(t, x.name, len(c.Bounds), x.count)
+		expect.Errno(t, x.name, e, x.e)
+		expect.Equal(t, x.name, len(c.Bounds), x.count)
 	}
 }
 
@@ -153,8 +154,8 @@ func ring(n int) api.System {
 func TestCloseIsExact(t *testing.T) {
 	eachConsistent(t, 2000, func(t *testing.T, r *rand.Rand, s api.System, d table) {
 		c, e := line.Close(s)
-		errno(t, "Close", e, api.OK)
-		equal(t, "Close", c.N, s.N)
+		expect.Errno(t, "Close", e, api.OK)
+		expect.Equal(t, "Close", c.N, s.N)
 		var want []api.Bound
 		for a := range d {
 			for b, x := range d[a] {
@@ -168,7 +169,7 @@ func TestCloseIsExact(t *testing.T) {
 		}
 		same(t, "the closure", c, d, true)
 		again, e := line.Close(c)
-		errno(t, "Close of the closure", e, api.OK)
+		expect.Errno(t, "Close of the closure", e, api.OK)
 		if !slices.Equal(again.Bounds, c.Bounds) {
 			t.Errorf("Close of the closure: %v, want %v", again.Bounds, c.Bounds)
 		}
@@ -182,7 +183,7 @@ func TestMoreBounds(t *testing.T) {
 		more.N = s.N
 		more = subset(more, func(i int) bool { return more.Bounds[i].From < s.N && more.Bounds[i].To < s.N })
 		j, e := line.Join(s, more)
-		errno(t, "Join", e, api.OK)
+		expect.Errno(t, "Join", e, api.OK)
 		before, _ := line.Consistent(s)
 		after, _ := line.Consistent(j)
 		if after && !before {

@@ -8,6 +8,7 @@ import (
 	"testing"
 
 	"merestone/api"
+	"merestone/expect"
 	"merestone/line"
 )
 
@@ -86,8 +87,8 @@ func TestErrorsOfCheck(t *testing.T) {
 	} {
 		for _, c := range calls() {
 			l, e := c.run(x.s)
-			errno(t, c.name+" of "+x.name, e, x.want)
-			equal(t, c.name+" of "+x.name+" is empty", empty(l), true)
+			expect.Errno(t, c.name+" of "+x.name, e, x.want)
+			expect.Equal(t, c.name+" of "+x.name+" is empty", empty(l), true)
 		}
 	}
 }
@@ -100,23 +101,23 @@ func TestErrorsOfContradictions(t *testing.T) {
 		if c.sound {
 			want = api.ErrCircle
 		}
-		errno(t, c.name, e, want)
+		expect.Errno(t, c.name, e, want)
 		if c.sound {
-			equal(t, c.name+" is empty", empty(l), true)
+			expect.Equal(t, c.name+" is empty", empty(l), true)
 		}
 	}
 	// The point 3 has no greatest and no least value, and there is no path to it.
 	for _, call := range []func(api.System) ([]int, api.Errno){line.Greatest, line.Least} {
 		_, e := call(contradiction())
-		errno(t, "ErrCircle before ErrNone", e, api.ErrCircle)
+		expect.Errno(t, "ErrCircle before ErrNone", e, api.ErrCircle)
 	}
 	_, e := line.Path(contradiction(), 0, 3)
-	errno(t, "ErrCircle before ErrNone", e, api.ErrCircle)
+	expect.Errno(t, "ErrCircle before ErrNone", e, api.ErrCircle)
 	s := plus(contradiction(), api.Bound{From: 0, To: 3, Most: 1000000}, api.Bound{From: 2, To: 3, Most: 1000000})
 	_, e = line.Close(s)
-	errno(t, "ErrCircle before ErrLimit", e, api.ErrCircle)
+	expect.Errno(t, "ErrCircle before ErrLimit", e, api.ErrCircle)
 	_, e = line.Close(plus(ring(60), api.Bound{From: 1, To: 0, Most: -2}))
-	errno(t, "ErrCircle before ErrLimit", e, api.ErrCircle)
+	expect.Errno(t, "ErrCircle before ErrLimit", e, api.ErrCircle)
 }
 
 // Points that there are not: ErrArg, behind Check and before ErrCircle.
@@ -143,15 +144,15 @@ func TestErrorsOfPoints(t *testing.T) {
 		for _, p := range []int{-1, 4, 5, 127, 128, math.MinInt, math.MaxInt} {
 			for _, s := range []api.System{chapter(), contradiction()} {
 				l, e := run(s, p)
-				errno(t, name, e, api.ErrArg)
-				equal(t, name+" is empty", empty(l), true)
+				expect.Errno(t, name, e, api.ErrArg)
+				expect.Equal(t, name+" is empty", empty(l), true)
 			}
 			_, e := run(api.System{N: 129}, p)
-			errno(t, name+" of a bad system", e, api.ErrLimit)
+			expect.Errno(t, name+" of a bad system", e, api.ErrLimit)
 		}
 		for p := range 4 {
 			_, e := run(chapter(), p)
-			equal(t, name+" takes the point", e == api.OK || e == api.ErrNone, true)
+			expect.Equal(t, name+" takes the point", e == api.OK || e == api.ErrNone, true)
 		}
 	}
 }
@@ -222,13 +223,13 @@ func TestMemoryOfLists(t *testing.T) {
 	line.CheckCircle(s, l)
 	line.CheckPath(s, l, 2, 2, 0)
 	line.Kept(s, []int{0, 1, 2, 3, 4}[:4])
-	ints(t, "the list", room, 5, 2, 0, 4, 3)
+	expect.List(t, "the list", room, 5, 2, 0, 4, 3)
 	classes, _ := line.Rigid(api.System{N: 5})
 	for _, c := range classes {
 		_ = append(c, 99)
 	}
 	for p, c := range classes {
-		ints(t, "a class", c, p)
+		expect.List(t, "a class", c, p)
 	}
 	c := chapter()
 	for range 2 {
@@ -237,11 +238,11 @@ func TestMemoryOfLists(t *testing.T) {
 		w, _ := line.Without(c, nil)
 		x, _ := line.Without(c, []int{99})
 		for _, y := range []api.System{j, k, w, x} {
-			equal(t, "the first bound", y.Bounds[0], chapter().Bounds[0])
+			expect.Equal(t, "the first bound", y.Bounds[0], chapter().Bounds[0])
 			y.Bounds[0].Most = 99
 		}
 	}
-	equal(t, "the argument's first bound", c.Bounds[0], chapter().Bounds[0])
+	expect.Equal(t, "the argument's first bound", c.Bounds[0], chapter().Bounds[0])
 }
 
 // R3: nil and empty lists of bounds are the same.
@@ -249,8 +250,8 @@ func TestNilAndEmpty(t *testing.T) {
 	for _, c := range calls() {
 		l, e := c.run(api.System{N: 3})
 		m, f := c.run(api.System{N: 3, Bounds: []api.Bound{}})
-		equal(t, c.name, alike(l, m), true)
-		errno(t, c.name, e, f)
+		expect.Equal(t, c.name, alike(l, m), true)
+		expect.Errno(t, c.name, e, f)
 	}
 }
 
@@ -321,18 +322,18 @@ func TestGreatSystems(t *testing.T) {
 		}
 		for _, c := range calls() {
 			_, e := c.run(s)
-			equal(t, c.name, e == api.OK || e == api.ErrCircle || c.name == "Close" && e == api.ErrLimit || c.name == "Join" && e == api.ErrArg, true)
+			expect.Equal(t, c.name, e == api.OK || e == api.ErrCircle || c.name == "Close" && e == api.ErrLimit || c.name == "Join" && e == api.ErrArg, true)
 		}
 		l, is, _ := line.Circle(s)
 		if is {
 			ok, _ := line.CheckCircle(s, l)
-			equal(t, "CheckCircle", ok, true)
+			expect.Equal(t, "CheckCircle", ok, true)
 		}
 		y, e := line.Some(s)
-		equal(t, "Some or Circle", e == api.OK, !is)
+		expect.Equal(t, "Some or Circle", e == api.OK, !is)
 		if e == api.OK {
 			_, kept, _ := line.Kept(s, y)
-			equal(t, "Some keeps", kept, true)
+			expect.Equal(t, "Some keeps", kept, true)
 		}
 	}
 }
@@ -345,7 +346,7 @@ func TestNumbers(t *testing.T) {
 	}{
 		{"MaxPoints", api.MaxPoints, 128}, {"MaxBounds", api.MaxBounds, 2000}, {"MaxMost", api.MaxMost, 1000000}, {"MaxId", api.MaxId, 1000000}, {"MaxValue", api.MaxValue, 400000000},
 	} {
-		equal(t, x.name, x.got, x.want)
+		expect.Equal(t, x.name, x.got, x.want)
 	}
 	for _, x := range []struct {
 		name string
@@ -356,6 +357,6 @@ func TestNumbers(t *testing.T) {
 		{"ErrCircle", api.ErrCircle, 10}, {"ErrCompass", api.ErrCompass, 20}, {"ErrOrder", api.ErrOrder, 30}, {"ErrConflict", api.ErrConflict, 40}, {"ErrOpen", api.ErrOpen, 50}, {"ErrShare", api.ErrShare, 51}, {"ErrFar", api.ErrFar, 60}, {"ErrShort", api.ErrShort, 70}, {"ErrUnlike", api.ErrUnlike, 71},
 		{"ErrProof", api.ErrProof, 80}, {"ErrEarly", api.ErrEarly, 81}, {"ErrLate", api.ErrLate, 82}, {"ErrDown", api.ErrDown, 90}, {"ErrSpoilt", api.ErrSpoilt, 91}, {"ErrFull", api.ErrFull, 92}, {"ErrDuty", api.ErrDuty, 93}, {"ErrLink", api.ErrLink, 100}, {"ErrArea", api.ErrArea, 101},
 	} {
-		equal(t, x.name, int(x.got), x.want)
+		expect.Equal(t, x.name, int(x.got), x.want)
 	}
 }

@@ -6,6 +6,7 @@ import (
 	"testing"
 
 	"merestone/api"
+	"merestone/expect"
 	"merestone/line"
 )
 
@@ -33,12 +34,12 @@ func TestRange(t *testing.T) {
 		{"the document's first example", api.System{N: 3, Bounds: []api.Bound{{From: 0, To: 1, Most: 5}, {From: 1, To: 2, Most: 3}, {From: 0, To: 2, Most: 9}}}, 0, 2, api.Span{High: 8, Highest: true}},
 	} {
 		got, e := line.Between(x.s, x.a, x.b)
-		equal(t, x.name, got, x.want)
-		errno(t, x.name, e, api.OK)
+		expect.Equal(t, x.name, got, x.want)
+		expect.Errno(t, x.name, e, api.OK)
 		if x.a == 0 {
 			got, e := line.Range(x.s, x.b)
-			equal(t, x.name, got, x.want)
-			errno(t, x.name, e, api.OK)
+			expect.Equal(t, x.name, got, x.want)
+			expect.Errno(t, x.name, e, api.OK)
 		}
 	}
 }
@@ -62,7 +63,7 @@ func TestRangesAreSharp(t *testing.T) {
 		})
 		for k := range seen {
 			x, e := line.Between(s, k/s.N, k%s.N)
-			errno(t, "Between", e, api.OK)
+			expect.Errno(t, "Between", e, api.OK)
 			for v := range seen[k] {
 				if x.Highest && v > x.High || x.Lowest && v < x.Low {
 					t.Errorf("%v: a difference of %d beyond %v", s, v, x)
@@ -71,7 +72,7 @@ func TestRangesAreSharp(t *testing.T) {
 			if bounded(d, most) {
 				checked++
 				for v := x.Low; v <= x.High; v++ {
-					equal(t, "a difference in the range", seen[k][v], true)
+					expect.Equal(t, "a difference in the range", seen[k][v], true)
 				}
 			}
 		}
@@ -98,12 +99,12 @@ func TestRangesAreDistances(t *testing.T) {
 			for b := range s.N {
 				want := api.Span{Low: -d[b][a].most, High: d[a][b].most, Lowest: d[b][a].is, Highest: d[a][b].is}
 				got, e := line.Between(s, a, b)
-				equal(t, "Between", got, want)
-				errno(t, "Between", e, api.OK)
+				expect.Equal(t, "Between", got, want)
+				expect.Errno(t, "Between", e, api.OK)
 				if a == 0 {
 					got, e := line.Range(s, b)
-					equal(t, "Range", got, want)
-					errno(t, "Range", e, api.OK)
+					expect.Equal(t, "Range", got, want)
+					expect.Errno(t, "Range", e, api.OK)
 				}
 			}
 		}
@@ -130,7 +131,7 @@ func TestRigid(t *testing.T) {
 		{"one end alone", api.System{N: 2, Bounds: []api.Bound{{From: 0, To: 1}}}, [][]int{{0}, {1}}},
 	} {
 		l, e := line.Rigid(x.s)
-		errno(t, x.name, e, api.OK)
+		expect.Errno(t, x.name, e, api.OK)
 		if !slices.EqualFunc(l, x.want, slices.Equal[[]int]) {
 			t.Errorf("%s: %v, want %v", x.name, l, x.want)
 		}
@@ -142,7 +143,7 @@ func TestRigidIsExact(t *testing.T) {
 	joined := 0
 	eachConsistent(t, 4000, func(t *testing.T, r *rand.Rand, s api.System, d table) {
 		l, e := line.Rigid(s)
-		errno(t, "Rigid", e, api.OK)
+		expect.Errno(t, "Rigid", e, api.OK)
 		if all := slices.Sorted(slices.Values(slices.Concat(l...))); len(all) != s.N || all[0] != 0 || all[s.N-1] != s.N-1 || len(slices.Compact(all)) != s.N {
 			t.Errorf("Rigid: %v of %d points", l, s.N)
 			return
@@ -159,7 +160,7 @@ func TestRigidIsExact(t *testing.T) {
 		for a := range s.N {
 			for b := range a {
 				one := d[a][b].is && d[b][a].is && d[a][b].most == -d[b][a].most
-				equal(t, "in one class", class[a] == class[b], one)
+				expect.Equal(t, "in one class", class[a] == class[b], one)
 				if one {
 					joined++
 				}

@@ -7,6 +7,7 @@ import (
 	"testing"
 
 	"merestone/api"
+	"merestone/expect"
 	"merestone/line"
 )
 
@@ -35,20 +36,20 @@ func TestGreatestLeast(t *testing.T) {
 				continue
 			}
 			l, e := y.call(x.s)
-			ints(t, x.name+": "+y.name, l, y.want...)
+			expect.List(t, x.name+": "+y.name, l, y.want...)
 			want := api.OK
 			if y.want == nil {
 				want = api.ErrNone
 			}
-			errno(t, x.name+": "+y.name, e, want)
+			expect.Errno(t, x.name+": "+y.name, e, want)
 		}
 	}
 	l, e := line.Greatest(chain(128, 1000000))
-	errno(t, "far up", e, api.OK)
-	equal(t, "far up", l[127], 127000000)
+	expect.Errno(t, "far up", e, api.OK)
+	expect.Equal(t, "far up", l[127], 127000000)
 	l, e = line.Least(turned(chain(128, 1000000)))
-	errno(t, "far down", e, api.OK)
-	equal(t, "far down", l[127], -127000000)
+	expect.Errno(t, "far down", e, api.OK)
+	expect.Equal(t, "far down", l[127], -127000000)
 }
 
 // A8, P1.4: these are the ends of the ranges; they keep the system, and all values that keep it lie between them.
@@ -88,15 +89,15 @@ func keeps(t *testing.T, s api.System, name string, call func(api.System) ([]int
 	t.Helper()
 	l, e := call(s)
 	if len(want) < s.N {
-		errno(t, name, e, api.ErrNone)
-		ints(t, name, l)
+		expect.Errno(t, name, e, api.ErrNone)
+		expect.List(t, name, l)
 		return
 	}
-	errno(t, name, e, api.OK)
-	ints(t, name, l, want...)
+	expect.Errno(t, name, e, api.OK)
+	expect.List(t, name, l, want...)
 	_, is, e := line.Kept(s, l)
-	equal(t, name+" keeps", is, true)
-	errno(t, name+" keeps", e, api.OK)
+	expect.Equal(t, name+" keeps", is, true)
+	expect.Errno(t, name+" keeps", e, api.OK)
 }
 
 // P1.4: of two values that keep a system the lesser ones, and the greater ones, point by point, keep it.
@@ -118,7 +119,7 @@ func TestLesserAndGreaterKeep(t *testing.T) {
 				}
 				_, low, _ := line.Kept(s, lesser)
 				_, high, _ := line.Kept(s, greater)
-				equal(t, "lesser and greater values keep", low && high, true)
+				expect.Equal(t, "lesser and greater values keep", low && high, true)
 			}
 		}
 	})
@@ -149,12 +150,12 @@ func TestSome(t *testing.T) {
 		{"high by a bound through a later point", api.System{N: 3, Bounds: []api.Bound{{From: 1, To: 2, Most: -2}, {From: 2, To: 0, Most: -3}}}, []int{0, 5, 3}},
 	} {
 		l, e := line.Some(x.s)
-		ints(t, x.name, l, x.want...)
-		errno(t, x.name, e, api.OK)
+		expect.List(t, x.name, l, x.want...)
+		expect.Errno(t, x.name, e, api.OK)
 		l, is, e := line.Through(x.s, 0, 0)
-		ints(t, x.name+", through 0", l, x.want...)
-		equal(t, x.name+", through 0", is, true)
-		errno(t, x.name+", through 0", e, api.OK)
+		expect.List(t, x.name+", through 0", l, x.want...)
+		expect.Equal(t, x.name+", through 0", is, true)
+		expect.Errno(t, x.name+", through 0", e, api.OK)
 	}
 }
 
@@ -164,13 +165,13 @@ func TestSomeFar(t *testing.T) {
 		for _, s := range []api.System{chain(128, most), turned(chain(128, most)), plus(chain(128, most), api.Bound{From: 127, To: 0, Most: 1000000})} {
 			l, e := line.Some(s)
 			if ok, _ := line.Consistent(s); !ok {
-				errno(t, "Some", e, api.ErrCircle)
+				expect.Errno(t, "Some", e, api.ErrCircle)
 				continue
 			}
-			errno(t, "Some", e, api.OK)
+			expect.Errno(t, "Some", e, api.OK)
 			_, is, e := line.Kept(s, l)
-			equal(t, "Some keeps", is, true)
-			errno(t, "Some keeps", e, api.OK)
+			expect.Equal(t, "Some keeps", is, true)
+			expect.Errno(t, "Some keeps", e, api.OK)
 		}
 	}
 }
@@ -180,11 +181,11 @@ func TestSomeIsFirst(t *testing.T) {
 	eachConsistent(t, 3000, func(t *testing.T, r *rand.Rand, s api.System, d table) {
 		want, _ := search(s)
 		l, e := line.Some(s)
-		errno(t, "Some", e, api.OK)
-		ints(t, "Some", l, want...)
+		expect.Errno(t, "Some", e, api.OK)
+		expect.List(t, "Some", l, want...)
 		_, is, e := line.Kept(s, l)
-		equal(t, "Some keeps", is, true)
-		errno(t, "Some keeps", e, api.OK)
+		expect.Equal(t, "Some keeps", is, true)
+		expect.Errno(t, "Some keeps", e, api.OK)
 		if t.Failed() {
 			t.Log(s)
 		}
@@ -229,9 +230,9 @@ func TestThrough(t *testing.T) {
 		{"with 2001 bounds", repeated(2001), 1, 2, nil, api.ErrLimit},
 	} {
 		l, is, e := line.Through(x.s, x.p, x.v)
-		ints(t, x.name, l, x.want...)
-		equal(t, x.name, is, x.want != nil)
-		errno(t, x.name, e, x.e)
+		expect.List(t, x.name, l, x.want...)
+		expect.Equal(t, x.name, is, x.want != nil)
+		expect.Errno(t, x.name, e, x.e)
 	}
 }
 
@@ -241,18 +242,18 @@ func TestThroughIsExact(t *testing.T) {
 		for p := range s.N {
 			for v := -25; v <= 25; v++ {
 				y, is, e := line.Through(s, p, v)
-				errno(t, "Through", e, api.OK)
-				equal(t, "Through", is, !(d[0][p].is && v > d[0][p].most) && !(d[p][0].is && v < -d[p][0].most))
+				expect.Errno(t, "Through", e, api.OK)
+				expect.Equal(t, "Through", is, !(d[0][p].is && v > d[0][p].most) && !(d[p][0].is && v < -d[p][0].most))
 				if !is {
-					ints(t, "Through", y)
+					expect.List(t, "Through", y)
 					continue
 				}
 				_, kept, _ := line.Kept(s, y)
-				equal(t, "Through keeps", kept, true)
-				equal(t, "Through has the value", y[p], v)
+				expect.Equal(t, "Through keeps", kept, true)
+				expect.Equal(t, "Through has the value", y[p], v)
 				if p > 0 {
 					want, _ := search(tied(s, map[int]int{p: v}))
-					ints(t, "Through", y, want...)
+					expect.List(t, "Through", y, want...)
 				}
 			}
 		}
@@ -273,13 +274,13 @@ func TestDistancesAreAttained(t *testing.T) {
 					least = plus(s, api.Bound{From: b, To: a, Most: -d[a][b].most})
 				}
 				y, e := line.Some(least)
-				errno(t, "Some", e, api.OK)
+				expect.Errno(t, "Some", e, api.OK)
 				if e != api.OK {
 					return
 				}
 				_, is, _ := line.Kept(s, y)
-				equal(t, "the values keep", is, true)
-				equal(t, "the difference is the distance", y[b]-y[a], d[a][b].most)
+				expect.Equal(t, "the values keep", is, true)
+				expect.Equal(t, "the difference is the distance", y[b]-y[a], d[a][b].most)
 			}
 		}
 	})

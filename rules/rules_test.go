@@ -110,7 +110,8 @@ func TestPackageLevel(t *testing.T) {
 // The section Ways of the chapters of the layers that are built.
 func TestWays(t *testing.T) {
 	for name, ways := range map[string][]string{
-		"line": {"array", "range-function", "closure", "label", "method-expression", "map", "generic-function"},
+		"line":   {"array", "range-function", "closure", "label", "method-expression", "map", "generic-function"},
+		"course": {"closure", "range-function", "fallthrough", "generic-function", "array", "panic", "recover", "defer"},
 	} {
 		got := found(source(t, name))
 		for _, way := range ways {
@@ -136,6 +137,13 @@ func found(files []*ast.File) map[string]bool {
 				got["closure"] = true
 			case *ast.BranchStmt:
 				got["label"] = got["label"] || x.Label != nil
+				got["fallthrough"] = got["fallthrough"] || x.Tok == token.FALLTHROUGH
+			case *ast.DeferStmt:
+				got["defer"] = true
+			case *ast.CallExpr:
+				if id, is := x.Fun.(*ast.Ident); is {
+					got[id.Name] = true // panic and recover
+				}
 			case *ast.FuncDecl:
 				got["generic-function"] = got["generic-function"] || x.Type.TypeParams != nil
 				got["range-function"] = got["range-function"] || yields(x.Type)
