@@ -63,32 +63,27 @@ type call struct {
 	run  func(l []api.Variation, c api.Course, dx, dy int) ([]any, api.Errno)
 }
 
-// one, two, three: the results of a function, without and with its error.
-func one[T any](x T, e api.Errno) ([]any, api.Errno)                   { return []any{x}, e }
-func two[T, U any](x T, y U, e api.Errno) ([]any, api.Errno)           { return []any{x, y}, e }
-func three[T, U, V any](x T, y U, z V, e api.Errno) ([]any, api.Errno) { return []any{x, y, z}, e }
-
 // calls returns the functions that look at a course and a step.
 func calls() []call {
 	type results = []any
 	return []call{
 		{"Misfit", true, func(l []api.Variation, c api.Course, dx, dy int) (results, api.Errno) {
-			return one(course.Misfit(l, c, dx, dy))
+			return expect.One(course.Misfit(l, c, dx, dy))
 		}},
 		{"Fits", true, func(l []api.Variation, c api.Course, dx, dy int) (results, api.Errno) {
-			return one(course.Fits(l, c, dx, dy))
+			return expect.One(course.Fits(l, c, dx, dy))
 		}},
 		{"Interval", false, func(l []api.Variation, c api.Course, dx, _ int) (results, api.Errno) {
-			return three(course.Interval(l, c, dx))
+			return expect.Three(course.Interval(l, c, dx))
 		}},
 		{"Needed", true, func(l []api.Variation, c api.Course, dx, dy int) (results, api.Errno) {
-			return two(course.Needed(l, c, dx, dy))
+			return expect.Two(course.Needed(l, c, dx, dy))
 		}},
 		{"Common", false, func(l []api.Variation, c api.Course, dx, _ int) (results, api.Errno) {
-			return three(course.Common(l, []api.Course{example(), c, example()}, dx))
+			return expect.Three(course.Common(l, []api.Course{example(), c, example()}, dx))
 		}},
 		{"Bounds", false, func(l []api.Variation, c api.Course, dx, _ int) (results, api.Errno) {
-			return one(course.Bounds(l, c, dx, 1, 2, 3))
+			return expect.One(course.Bounds(l, c, dx, 1, 2, 3))
 		}},
 	}
 }

@@ -36,3 +36,12 @@ func List[V comparable](t T, name string, got []V, want ...V) {
 		t.Errorf("%s: %v, want %v", name, got, want)
 	}
 }
+
+// One returns the result of a call without its error, and the error. Two and Three do so for calls with more results.
+func One[A any](a A, e api.Errno) ([]any, api.Errno) { return []any{a}, e }
+
+// Two is One for two results.
+func Two[A, B any](a A, b B, e api.Errno) ([]any, api.Errno) { return []any{a, b}, e }
+
+// Three is One for three results.
+func Three[A, B, C any](a A, b B, c C, e api.Errno) ([]any, api.Errno) { return []any{a, b, c}, e }

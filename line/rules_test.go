@@ -19,36 +19,34 @@ type call struct {
 	run   func(s api.System) ([]any, api.Errno)
 }
 
-// one, two: the results of a function, without and with its error.
-func one[T any](x T, e api.Errno) ([]any, api.Errno)         { return []any{x}, e }
-func two[T, U any](x T, y U, e api.Errno) ([]any, api.Errno) { return []any{x, y}, e }
-
 // calls returns all functions, with arguments for a system of at least 3 points and 6 bounds.
 func calls() []call {
 	type results = []any
 	return []call{
 		{"Check", false, func(s api.System) (results, api.Errno) { return nil, line.Check(s) }},
-		{"Kept", false, func(s api.System) (results, api.Errno) { return two(line.Kept(s, make([]int, max(0, min(s.N, 200))))) }},
-		{"Consistent", false, func(s api.System) (results, api.Errno) { return one(line.Consistent(s)) }},
-		{"Circle", false, func(s api.System) (results, api.Errno) { return two(line.Circle(s)) }},
-		{"CheckCircle", false, func(s api.System) (results, api.Errno) { return one(line.CheckCircle(s, []int{0, 2, 5})) }},
-		{"Blame", false, func(s api.System) (results, api.Errno) { return one(line.Blame(s)) }},
-		{"Distance", true, func(s api.System) (results, api.Errno) { return two(line.Distance(s, 0, 2)) }},
-		{"Distances", true, func(s api.System) (results, api.Errno) { return two(line.Distances(s, 0)) }},
-		{"Path", true, func(s api.System) (results, api.Errno) { return one(line.Path(s, 0, 2)) }},
-		{"CheckPath", false, func(s api.System) (results, api.Errno) { return one(line.CheckPath(s, []int{0, 2}, 0, 2, 8)) }},
-		{"Range", true, func(s api.System) (results, api.Errno) { return one(line.Range(s, 2)) }},
-		{"Between", true, func(s api.System) (results, api.Errno) { return one(line.Between(s, 1, 2)) }},
-		{"Greatest", true, func(s api.System) (results, api.Errno) { return one(line.Greatest(s)) }},
-		{"Least", true, func(s api.System) (results, api.Errno) { return one(line.Least(s)) }},
-		{"Some", true, func(s api.System) (results, api.Errno) { return one(line.Some(s)) }},
-		{"Through", false, func(s api.System) (results, api.Errno) { return two(line.Through(s, 1, 3)) }},
-		{"Rigid", true, func(s api.System) (results, api.Errno) { return one(line.Rigid(s)) }},
-		{"Needless", true, func(s api.System) (results, api.Errno) { return one(line.Needless(s)) }},
-		{"Records", false, func(s api.System) (results, api.Errno) { return one(line.Records(s, []int{4, 3, 2})) }},
-		{"Close", true, func(s api.System) (results, api.Errno) { return one(line.Close(s)) }},
-		{"Without", false, func(s api.System) (results, api.Errno) { return one(line.Without(s, []int{3})) }},
-		{"Join", false, func(s api.System) (results, api.Errno) { return one(line.Join(s, chapter())) }},
+		{"Kept", false, func(s api.System) (results, api.Errno) {
+			return expect.Two(line.Kept(s, make([]int, max(0, min(s.N, 200)))))
+		}},
+		{"Consistent", false, func(s api.System) (results, api.Errno) { return expect.One(line.Consistent(s)) }},
+		{"Circle", false, func(s api.System) (results, api.Errno) { return expect.Two(line.Circle(s)) }},
+		{"CheckCircle", false, func(s api.System) (results, api.Errno) { return expect.One(line.CheckCircle(s, []int{0, 2, 5})) }},
+		{"Blame", false, func(s api.System) (results, api.Errno) { return expect.One(line.Blame(s)) }},
+		{"Distance", true, func(s api.System) (results, api.Errno) { return expect.Two(line.Distance(s, 0, 2)) }},
+		{"Distances", true, func(s api.System) (results, api.Errno) { return expect.Two(line.Distances(s, 0)) }},
+		{"Path", true, func(s api.System) (results, api.Errno) { return expect.One(line.Path(s, 0, 2)) }},
+		{"CheckPath", false, func(s api.System) (results, api.Errno) { return expect.One(line.CheckPath(s, []int{0, 2}, 0, 2, 8)) }},
+		{"Range", true, func(s api.System) (results, api.Errno) { return expect.One(line.Range(s, 2)) }},
+		{"Between", true, func(s api.System) (results, api.Errno) { return expect.One(line.Between(s, 1, 2)) }},
+		{"Greatest", true, func(s api.System) (results, api.Errno) { return expect.One(line.Greatest(s)) }},
+		{"Least", true, func(s api.System) (results, api.Errno) { return expect.One(line.Least(s)) }},
+		{"Some", true, func(s api.System) (results, api.Errno) { return expect.One(line.Some(s)) }},
+		{"Through", false, func(s api.System) (results, api.Errno) { return expect.Two(line.Through(s, 1, 3)) }},
+		{"Rigid", true, func(s api.System) (results, api.Errno) { return expect.One(line.Rigid(s)) }},
+		{"Needless", true, func(s api.System) (results, api.Errno) { return expect.One(line.Needless(s)) }},
+		{"Records", false, func(s api.System) (results, api.Errno) { return expect.One(line.Records(s, []int{4, 3, 2})) }},
+		{"Close", true, func(s api.System) (results, api.Errno) { return expect.One(line.Close(s)) }},
+		{"Without", false, func(s api.System) (results, api.Errno) { return expect.One(line.Without(s, []int{3})) }},
+		{"Join", false, func(s api.System) (results, api.Errno) { return expect.One(line.Join(s, chapter())) }},
 	}
 }
 
@@ -125,21 +123,21 @@ func TestErrorsOfPoints(t *testing.T) {
 	type point func(s api.System, p int) ([]any, api.Errno)
 	type results = []any
 	for name, run := range map[string]point{
-		"Distance from":  func(s api.System, p int) (results, api.Errno) { return two(line.Distance(s, p, 1)) },
-		"Distance to":    func(s api.System, p int) (results, api.Errno) { return two(line.Distance(s, 1, p)) },
-		"Distance":       func(s api.System, p int) (results, api.Errno) { return two(line.Distance(s, p, p)) },
-		"Distances":      func(s api.System, p int) (results, api.Errno) { return two(line.Distances(s, p)) },
-		"Path from":      func(s api.System, p int) (results, api.Errno) { return one(line.Path(s, p, 1)) },
-		"Path to":        func(s api.System, p int) (results, api.Errno) { return one(line.Path(s, 1, p)) },
-		"Path":           func(s api.System, p int) (results, api.Errno) { return one(line.Path(s, p, p)) },
-		"CheckPath from": func(s api.System, p int) (results, api.Errno) { return one(line.CheckPath(s, nil, p, 1, 0)) },
-		"CheckPath to":   func(s api.System, p int) (results, api.Errno) { return one(line.CheckPath(s, nil, 1, p, 0)) },
-		"CheckPath":      func(s api.System, p int) (results, api.Errno) { return one(line.CheckPath(s, nil, p, p, 0)) },
-		"Range":          func(s api.System, p int) (results, api.Errno) { return one(line.Range(s, p)) },
-		"Between a":      func(s api.System, p int) (results, api.Errno) { return one(line.Between(s, p, 1)) },
-		"Between b":      func(s api.System, p int) (results, api.Errno) { return one(line.Between(s, 1, p)) },
-		"Between":        func(s api.System, p int) (results, api.Errno) { return one(line.Between(s, p, p)) },
-		"Through":        func(s api.System, p int) (results, api.Errno) { return two(line.Through(s, p, 0)) },
+		"Distance from":  func(s api.System, p int) (results, api.Errno) { return expect.Two(line.Distance(s, p, 1)) },
+		"Distance to":    func(s api.System, p int) (results, api.Errno) { return expect.Two(line.Distance(s, 1, p)) },
+		"Distance":       func(s api.System, p int) (results, api.Errno) { return expect.Two(line.Distance(s, p, p)) },
+		"Distances":      func(s api.System, p int) (results, api.Errno) { return expect.Two(line.Distances(s, p)) },
+		"Path from":      func(s api.System, p int) (results, api.Errno) { return expect.One(line.Path(s, p, 1)) },
+		"Path to":        func(s api.System, p int) (results, api.Errno) { return expect.One(line.Path(s, 1, p)) },
+		"Path":           func(s api.System, p int) (results, api.Errno) { return expect.One(line.Path(s, p, p)) },
+		"CheckPath from": func(s api.System, p int) (results, api.Errno) { return expect.One(line.CheckPath(s, nil, p, 1, 0)) },
+		"CheckPath to":   func(s api.System, p int) (results, api.Errno) { return expect.One(line.CheckPath(s, nil, 1, p, 0)) },
+		"CheckPath":      func(s api.System, p int) (results, api.Errno) { return expect.One(line.CheckPath(s, nil, p, p, 0)) },
+		"Range":          func(s api.System, p int) (results, api.Errno) { return expect.One(line.Range(s, p)) },
+		"Between a":      func(s api.System, p int) (results, api.Errno) { return expect.One(line.Between(s, p, 1)) },
+		"Between b":      func(s api.System, p int) (results, api.Errno) { return expect.One(line.Between(s, 1, p)) },
+		"Between":        func(s api.System, p int) (results, api.Errno) { return expect.One(line.Between(s, p, p)) },
+		"Through":        func(s api.System, p int) (results, api.Errno) { return expect.Two(line.Through(s, p, 0)) },
 	} {
 		for _, p := range []int{-1, 4, 5, 127, 128, math.MinInt, math.MaxInt} {
 			for _, s := range []api.System{chapter(), contradiction()} {

@@ -112,6 +112,7 @@ func TestWays(t *testing.T) {
 	for name, ways := range map[string][]string{
 		"line":   {"array", "range-function", "closure", "label", "method-expression", "map", "generic-function"},
 		"course": {"closure", "range-function", "fallthrough", "generic-function", "array", "panic", "recover", "defer"},
+		"deed":   {"map", "panic", "recover", "defer", "range-function", "generic-function", "method-expression", "array"},
 	} {
 		got := found(source(t, name))
 		for _, way := range ways {
