@@ -113,6 +113,7 @@ func TestWays(t *testing.T) {
 		"line":   {"array", "range-function", "closure", "label", "method-expression", "map", "generic-function"},
 		"course": {"closure", "range-function", "fallthrough", "generic-function", "array", "panic", "recover", "defer"},
 		"deed":   {"map", "panic", "recover", "defer", "range-function", "generic-function", "method-expression", "array"},
+		"limits": {"method-value", "embedding", "range-function", "variadic", "struct-compared", "generic-function"},
 	} {
 		got := found(source(t, name))
 		for _, way := range ways {
@@ -126,7 +127,8 @@ func TestWays(t *testing.T) {
 // found returns the language features that some files use, as far as their text shows it.
 func found(files []*ast.File) map[string]bool {
 	got := map[string]bool{}
-	own := declared(files)
+	own, methods := declared(files)
+	called := map[ast.Node]bool{}
 	for _, f := range files {
 		ast.Inspect(f, func(n ast.Node) bool {
 			switch x := n.(type) {
@@ -142,15 +144,26 @@ func found(files []*ast.File) map[string]bool {
 			case *ast.DeferStmt:
 				got["defer"] = true
 			case *ast.CallExpr:
+				called[x.Fun] = true
 				if id, is := x.Fun.(*ast.Ident); is {
 					got[id.Name] = true // panic and recover
 				}
 			case *ast.FuncDecl:
 				got["generic-function"] = got["generic-function"] || x.Type.TypeParams != nil
 				got["range-function"] = got["range-function"] || yields(x.Type)
+			case *ast.Ellipsis:
+				got["variadic"] = got["variadic"] || x.Elt != nil
+			case *ast.StructType:
+				got["embedding"] = got["embedding"] || slices.ContainsFunc(x.Fields.List, func(f *ast.Field) bool { return f.Names == nil })
+			case *ast.BinaryExpr:
+				got["struct-compared"] = got["struct-compared"] || (x.Op == token.EQL || x.Op == token.NEQ) && (isStruct(x.X) || isStruct(x.Y))
+			case *ast.CaseClause:
+				got["struct-compared"] = got["struct-compared"] || slices.ContainsFunc(x.List, isStruct)
 			case *ast.SelectorExpr:
 				if id, is := x.X.(*ast.Ident); is && own[id.Name] {
 					got["method-expression"] = true
+				} else if methods[x.Sel.Name] && !called[x] {
+					got["method-value"] = true
 				}
 			}
 			return true
@@ -159,18 +172,31 @@ func found(files []*ast.File) map[string]bool {
 	return got
 }
 
-// declared returns the names of the types that some files declare.
-func declared(files []*ast.File) map[string]bool {
-	names := map[string]bool{}
+// isStruct says whether an expression is a struct that is written out.
+func isStruct(x ast.Expr) bool {
+	l, is := x.(*ast.CompositeLit)
+	if !is {
+		return false
+	}
+	_, named := l.Type.(*ast.Ident)
+	return named
+}
+
+// declared returns the names of the types, and of the methods, that some files declare.
+func declared(files []*ast.File) (kinds, methods map[string]bool) {
+	kinds, methods = map[string]bool{}, map[string]bool{}
 	for _, f := range files {
 		ast.Inspect(f, func(n ast.Node) bool {
-			if s, is := n.(*ast.TypeSpec); is {
-				names[s.Name.Name] = true
+			switch x := n.(type) {
+			case *ast.TypeSpec:
+				kinds[x.Name.Name] = true
+			case *ast.FuncDecl:
+				methods[x.Name.Name] = methods[x.Name.Name] || x.Recv != nil
 			}
 			return true
 		})
 	}
-	return names
+	return kinds, methods
 }
 
 // yields says whether a function returns one that can be ranged over, or is one.
