@@ -114,6 +114,7 @@ func TestWays(t *testing.T) {
 		"course": {"closure", "range-function", "fallthrough", "generic-function", "array", "panic", "recover", "defer"},
 		"deed":   {"map", "panic", "recover", "defer", "range-function", "generic-function", "method-expression", "array"},
 		"limits": {"method-value", "embedding", "range-function", "variadic", "struct-compared", "generic-function"},
+		"area":   {"closure", "array", "range-function", "generic-function", "label", "method-value"},
 	} {
 		got := found(source(t, name))
 		for _, way := range ways {
