@@ -115,6 +115,7 @@ func TestWays(t *testing.T) {
 		"deed":   {"map", "panic", "recover", "defer", "range-function", "generic-function", "method-expression", "array"},
 		"limits": {"method-value", "embedding", "range-function", "variadic", "struct-compared", "generic-function"},
 		"area":   {"closure", "array", "range-function", "generic-function", "label", "method-value"},
+		"plan":   {"array", "closure", "range-function", "label", "map", "embedding", "promoted", "variadic", "generic-function"},
 	} {
 		got := found(source(t, name))
 		for _, way := range ways {
@@ -127,7 +128,7 @@ func TestWays(t *testing.T) {
 
 // found returns the language features that some files use, as far as their text shows it.
 func found(files []*ast.File) map[string]bool {
-	got := map[string]bool{}
+	got := map[string]bool{"promoted": promotes(files)}
 	own, methods := declared(files)
 	called := map[ast.Node]bool{}
 	for _, f := range files {
@@ -171,6 +172,51 @@ func found(files []*ast.File) map[string]bool {
 		})
 	}
 	return got
+}
+
+// promotes says whether some method selects, of its receiver, a method of a type that the receiver's type embeds.
+func promotes(files []*ast.File) bool {
+	embedded, methods := map[string][]string{}, map[string][]string{}
+	for _, f := range files {
+		ast.Inspect(f, func(n ast.Node) bool {
+			switch x := n.(type) {
+			case *ast.TypeSpec:
+				if s, is := x.Type.(*ast.StructType); is {
+					for _, field := range s.Fields.List {
+						if field.Names == nil {
+							embedded[x.Name.Name] = append(embedded[x.Name.Name], types.ExprString(field.Type))
+						}
+					}
+				}
+			case *ast.FuncDecl:
+				if x.Recv != nil {
+					kind := strings.TrimPrefix(types.ExprString(x.Recv.List[0].Type), "*")
+					methods[kind] = append(methods[kind], x.Name.Name)
+				}
+			}
+			return true
+		})
+	}
+	is := false
+	for _, f := range files {
+		for _, d := range f.Decls {
+			x, method := d.(*ast.FuncDecl)
+			if !method || x.Recv == nil || x.Recv.List[0].Names == nil {
+				continue
+			}
+			ast.Inspect(x, func(n ast.Node) bool {
+				s, selects := n.(*ast.SelectorExpr)
+				if !selects || types.ExprString(s.X) != x.Recv.List[0].Names[0].Name {
+					return true
+				}
+				for _, part := range embedded[strings.TrimPrefix(types.ExprString(x.Recv.List[0].Type), "*")] {
+					is = is || slices.Contains(methods[strings.TrimPrefix(part, "*")], s.Sel.Name)
+				}
+				return true
+			})
+		}
+	}
+	return is
 }
 
 // isStruct says whether an expression is a struct that is written out.
