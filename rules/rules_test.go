@@ -116,6 +116,7 @@ func TestWays(t *testing.T) {
 		"limits": {"method-value", "embedding", "range-function", "variadic", "struct-compared", "generic-function"},
 		"area":   {"closure", "array", "range-function", "generic-function", "label", "method-value"},
 		"plan":   {"array", "closure", "range-function", "label", "map", "embedding", "promoted", "variadic", "generic-function"},
+		"right":  {"method-expression", "map", "panic", "type-switch", "defer", "recover", "clear", "generic-function", "struct-compared"},
 	} {
 		got := found(source(t, name))
 		for _, way := range ways {
@@ -145,10 +146,12 @@ func found(files []*ast.File) map[string]bool {
 				got["fallthrough"] = got["fallthrough"] || x.Tok == token.FALLTHROUGH
 			case *ast.DeferStmt:
 				got["defer"] = true
+			case *ast.TypeSwitchStmt:
+				got["type-switch"] = true
 			case *ast.CallExpr:
 				called[x.Fun] = true
 				if id, is := x.Fun.(*ast.Ident); is {
-					got[id.Name] = true // panic and recover
+					got[id.Name] = true // panic, recover and clear
 				}
 			case *ast.FuncDecl:
 				got["generic-function"] = got["generic-function"] || x.Type.TypeParams != nil
@@ -162,7 +165,7 @@ func found(files []*ast.File) map[string]bool {
 			case *ast.CaseClause:
 				got["struct-compared"] = got["struct-compared"] || slices.ContainsFunc(x.List, isStruct)
 			case *ast.SelectorExpr:
-				if id, is := x.X.(*ast.Ident); is && own[id.Name] {
+				if own[strings.Trim(types.ExprString(x.X), "(*)")] {
 					got["method-expression"] = true
 				} else if methods[x.Sel.Name] && !called[x] {
 					got["method-value"] = true
@@ -225,8 +228,11 @@ func isStruct(x ast.Expr) bool {
 	if !is {
 		return false
 	}
-	_, named := l.Type.(*ast.Ident)
-	return named
+	switch l.Type.(type) {
+	case *ast.Ident, *ast.SelectorExpr:
+		return true
+	}
+	return false
 }
 
 // declared returns the names of the types, and of the methods, that some files declare.
