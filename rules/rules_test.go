@@ -117,6 +117,7 @@ func TestWays(t *testing.T) {
 		"area":   {"closure", "array", "range-function", "generic-function", "label", "method-value"},
 		"plan":   {"array", "closure", "range-function", "label", "map", "embedding", "promoted", "variadic", "generic-function"},
 		"right":  {"method-expression", "map", "panic", "type-switch", "defer", "recover", "clear", "generic-function", "struct-compared"},
+		"court":  {"map", "method-expression", "panic", "recover", "defer", "embedding", "promoted", "range-function", "generic-function", "array", "closure"},
 	} {
 		got := found(source(t, name))
 		for _, way := range ways {
